@@ -1,0 +1,1 @@
+"""Eventsteps: stations, jobs, and one trace."""
