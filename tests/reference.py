@@ -1,10 +1,12 @@
-"""What the tests compare the package with: models by chance, and slow ways to find traces and states.
+"""What the tests compare the package with: models from words and by chance, and slow ways to find what is told of them.
 
-`slow_trace` goes through each time and asks the jobs, one by one, where they are; `told_state` reads a state off the
-events of a trace. Neither uses more of the package than the model itself.
+`slow_trace` goes through each time and asks the jobs, one by one, where they are; `slow_places` tells where they were
+at each time; `told_state` reads a state off the events of a trace. None uses more of the package than the model itself.
 """
 
 import random
+
+from eventsteps.models import model as new_model
 
 NAMES = ("a", "b", "c", "d", "e", "f")
 
@@ -13,6 +15,28 @@ def events_of(text):
     """The events that a text tells, a line each: a time, a word, a job and a station."""
     rows = [line.split() for line in text.strip().splitlines()]
     return [(int(time), word, int(job), station) for time, word, job, station in rows]
+
+
+def stations_of(*rows):
+    """Stations from words: a name, servers, room and, if it is not `first`, a discipline."""
+    made = []
+    for row in rows:
+        name, servers, room, *discipline = row.split()
+        made.append((name, int(servers), None if room == "-" else int(room), (discipline or ["first"])[0]))
+    return made
+
+
+def kind_of(row):
+    """A kind from words: a name, a priority, and its steps."""
+    name, priority, *steps = row.split()
+    return (name, int(priority), tuple((step.split(":")[0], int(step.split(":")[1])) for step in steps))
+
+
+def simple(stations, kinds, jobs, pauses=()):
+    """A model from lists of words; the jobs as one string of times and kinds."""
+    words = jobs.split()
+    pairs = [(int(time), kind) for time, kind in zip(words[::2], words[1::2])]
+    return new_model(stations_of(*stations), [kind_of(row) for row in kinds], list(pauses), pairs)
 
 
 def some_stations(chance):
@@ -167,6 +191,32 @@ def slow_trace(model):
     for time in range(last_time(model) + 1):
         run.step(time)
     return run.events
+
+
+def slow_places(model, last):
+    """For each time from 0 to the last one, behind all its events: a pair of a word and a station for each job."""
+    run = SlowRun(model)
+    rows = []
+    for time in range(last + 1):
+        run.step(time)
+        there = ("waiting", "served", "ready")
+        rows.append([(job.where, job.route[job.step][0] if job.where in there else None) for job in run.jobs])
+    return rows
+
+
+def slow_value(places, word, station):
+    """The value of a count where the jobs are at these places."""
+    words = ("waiting", "served", "ready") if word == "there" else (word,)
+    names = [name for where, name in places if where in words]
+    return len(names) if station is None else names.count(station)
+
+
+def slow_end(model):
+    """The jobs of the slow run behind all that happens."""
+    run = SlowRun(model)
+    for time in range(last_time(model) + 1):
+        run.step(time)
+    return run.jobs
 
 
 def told_state(model, events, time):

@@ -3,32 +3,9 @@ import inspect
 import unittest
 
 from eventsteps import states
-from eventsteps.models import model
 from eventsteps.runs import event_run, state_at, stepped_run
 from eventsteps.states import first_state, happen, next_time
-from reference import events_of, last_time, slow_trace, some_model, told_state
-
-
-def stations_of(*rows):
-    """Stations from words: a name, servers, room and, if it is not `first`, a discipline."""
-    made = []
-    for row in rows:
-        name, servers, room, *discipline = row.split()
-        made.append((name, int(servers), None if room == "-" else int(room), (discipline or ["first"])[0]))
-    return made
-
-
-def kind_of(row):
-    """A kind from words: a name, a priority, and its steps."""
-    name, priority, *steps = row.split()
-    return (name, int(priority), tuple((step.split(":")[0], int(step.split(":")[1])) for step in steps))
-
-
-def simple(stations, kinds, jobs, pauses=()):
-    """A model from lists of words; the jobs as one string of times and kinds."""
-    words = jobs.split()
-    pairs = [(int(time), kind) for time, kind in zip(words[::2], words[1::2])]
-    return model(stations_of(*stations), [kind_of(row) for row in kinds], list(pauses), pairs)
+from reference import events_of, last_time, simple, slow_trace, some_model, told_state
 
 
 class TraceTest(unittest.TestCase):
