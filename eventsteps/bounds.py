@@ -1,6 +1,6 @@
 """Bounds: times ahead of which the last event of a model cannot be, unless something is lost or stuck."""
 
-from eventsteps.models import route_of, station_names
+from eventsteps.models import route_of, servers_of, station_names
 from eventsteps.runs import event_run
 
 
@@ -14,9 +14,9 @@ def station_bound(some_model, name):
     steps = _steps_at(some_model, name)
     if not steps:
         return None
-    servers = {station: many for station, many, _, _ in some_model[0]}
+    servers = servers_of(some_model, name)
     early = min([ahead for ahead, _, _ in steps])
-    full = (work(some_model, name) + servers[name] - 1) // servers[name]
+    full = (work(some_model, name) + servers - 1) // servers
     late = min([behind for _, _, behind in steps])
     return early + full + late
 

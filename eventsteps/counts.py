@@ -2,8 +2,11 @@
 
 from math import gcd
 
+from eventsteps.models import servers_of
 from eventsteps.places import history, how_many, places_at
 from eventsteps.traces import stays
+
+WORDS = ("there", "waiting", "served", "ready")
 
 
 def value_at(some_model, events, word, station, time):
@@ -32,10 +35,9 @@ def mean(some_model, events, word, station, window):
 
 def use(some_model, events, station, window):
     """Return which share of a station's servers is held over a window, as a pair in lowest terms."""
-    servers = {name: many for name, many, _, _ in some_model[0]}
     served = integral(some_model, events, "served", station, window)
     ready = integral(some_model, events, "ready", station, window)
-    return _quotient(served + ready, servers[station] * _length(window))
+    return _quotient(served + ready, servers_of(some_model, station) * _length(window))
 
 
 def flow(events, station, window):

@@ -34,6 +34,12 @@ def route_of(some_model, job):
     return routes[kind]
 
 
+def servers_of(some_model, name):
+    """Return how many servers a station has."""
+    servers = {station: many for station, many, _, _ in some_model[0]}
+    return servers[name]
+
+
 def is_paused(some_model, name, time):
     """Tell whether a station is paused at a time."""
     return any([station == name and begin <= time < end for station, begin, end in some_model[2]])
@@ -111,12 +117,12 @@ def _is_route(route, stations):
 
 
 def _check_pauses(pauses, stations):
-    _raise_first([_pause_fault(pause, pauses[:place], stations) for place, pause in enumerate(pauses)])
+    _raise_first([pause_fault(pause, pauses[:place], stations) for place, pause in enumerate(pauses)])
     if len(pauses) > PAUSES:
         raise ModelError("too many pauses", len(pauses))
 
 
-def _pause_fault(pause, earlier, stations):
+def pause_fault(pause, earlier, stations):
     """Return the first fault of a pause that stands behind the earlier ones, or None."""
     station, begin, end = pause
     if station not in stations:

@@ -37,12 +37,19 @@ def common_unit(some_model):
 
 def state_at(some_model, time):
     """Return the state of a model's run behind all events ahead of a time."""
-    state = first_state(some_model)
+    _, state = run_until(some_model, first_state(some_model), time)
+    return state
+
+
+def run_until(some_model, state, time):
+    """Return the list of the events from the time of a state on and ahead of a later time, and the state there."""
+    events = []
     due = next_time(some_model, state)
     while due is not None and due < time:
-        _, state = happen(some_model, _waited(state, due))
+        these, state = happen(some_model, _waited(state, due))
+        events.extend(these)
         due = next_time(some_model, state)
-    return _waited(state, time)
+    return (events, _waited(state, time))
 
 
 def run_from(some_model, state):
